@@ -174,3 +174,37 @@ func readIn(term []impl.Mark) [5]int {
 	}
 	return often
 }
+
+// edgeTerms are terms, as their marks stand, for so many tests, with what is easily forgotten.
+var edgeTerms = []struct {
+	many  int
+	signs string
+}{
+	// One test alone, of one and of more.
+	{1, "a"}, {1, "a!"}, {5, "a"}, {5, "e"}, {5, "e!"}, {3, "b!!"},
+	// Always true, and never, in one test and in all, up to MaxMarks marks.
+	{1, "aa!|"}, {1, "aa!&"}, {1, "aa!&!"}, {2, "aa!|"}, {2, "bb!&"}, {4, "dd!|"}, {5, "aa!|"}, {5, "ee!&"}, {5, "aa!|bb!|&"}, {5, "abcdee!|||||"}, {5, "abcdee!|||||!"}, {5, "abcdee!&&&&&"}, {5, "abcdee!&&&&&!"}, {2, "ab&ab&!|!!!!!"}, {2, "ab|ab|!&!!!!!"},
+	// A test that is read, but never matters, and one that is not read.
+	{2, "aa!&b|"}, {3, "aa!&b|"}, {3, "aa!|b&"}, {2, "ab|a&"}, {2, "ab&a|"}, {3, "ab|ab!|&"}, {4, "dc!d|&"}, {5, "ab&ab!&|e|"}, {5, "bb!&daa!|&|"},
+	// All tests matter in each state, or any two of three, or which ones depends on the first one.
+	{2, "ab!&a!b&|"}, {2, "ab&a!b!&|"}, {3, "ab&ab|c&|"}, {3, "ab&a!c&|"}, {5, "cd&c!e&|"}, {4, "ab&cd&|"}, {5, "ab|cd|e&&"},
+	// All of them, and one at least, and MaxMarks marks.
+	{5, "ab&c&d&e&"}, {5, "ab|c|d|e|"}, {5, "abcde&&&&"}, {5, "abcde||||"}, {5, "abcdeab|&|&|&"}, {5, "ab|c&d|e&a|b&"}, {5, "ab&c!d&|e&!a|"}, {1, "a!!!!!!!!!!!!"}, {1, "aaaaaaa&&&&&&"}, {3, "ab!c|&a!b&c&|"},
+}
+
+// eachSomeTerm calls visit for fewer terms than eachTerm does, for what is to be tried with each of many other arguments: those of edgeTerms, and each seventh of the others.
+func eachSomeTerm(visit func(many int, term []impl.Mark)) {
+	for _, term := range edgeTerms {
+		visit(term.many, marksOf(term.signs))
+	}
+	for turn, term := range manyTerms() {
+		if turn%7 == 0 {
+			visit(term.many, slices.Clone(term.marks))
+		}
+	}
+}
+
+// withNot is a term with MarkNot behind it, and whether that has few enough marks for a term.
+func withNot(term []impl.Mark) ([]impl.Mark, bool) {
+	return slices.Concat(term, marksOf("!")), len(term) < 13
+}
