@@ -142,6 +142,15 @@ func statesOf(many int) int {
 	return 1 << many
 }
 
+// wholeOf returns the weights of all states of so many tests together, Sixths to the power of their number; many is in 1..MaxTests.
+func wholeOf(many int) int {
+	whole := 1
+	for range many {
+		whole *= Sixths
+	}
+	return whole
+}
+
 // outcomeIn returns how the test at a place comes out in a state, 0 or 1, as a row of what is known has it.
 func outcomeIn(state, at int) int {
 	return state >> at & 1
