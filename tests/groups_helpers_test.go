@@ -4,6 +4,7 @@ import (
 	"math/big"
 	"slices"
 	"sync"
+	"testing"
 
 	"loop.example/checksinorder/impl"
 )
@@ -224,10 +225,10 @@ func numbered(edge [][][2]int, order []int) grouped {
 	return g
 }
 
-// groupedEdges lists edgeGroups, in all orders of the groups, each with three ways to number the tests.
-func groupedEdges() []grouped {
+// numberedEdges lists edges, in all orders of their groups, each with three ways to number the tests.
+func numberedEdges(edges [][][][2]int) []grouped {
 	var list []grouped
-	for turn, edge := range edgeGroups {
+	for turn, edge := range edges {
 		for _, order := range ordersOf(len(edge)) {
 			var moved [][][2]int
 			for _, i := range order {
@@ -242,9 +243,9 @@ func groupedEdges() []grouped {
 	return list
 }
 
-// groupedTests are those edges; all groups, each with four lists of tests; all of one test and of two with all groups; and some of more tests with one of their groups in turn.
-var groupedTests = sync.OnceValue(func() []grouped {
-	list := groupedEdges()
+// sampledGroups are all groups, each with four lists of tests; all of one test and of two with all groups; and some of more tests with one of their groups in turn.
+var sampledGroups = sync.OnceValue(func() []grouped {
+	var list []grouped
 	turn := 0
 	eachGroups(func(many int, groups [][]int) {
 		turn++
@@ -266,6 +267,11 @@ var groupedTests = sync.OnceValue(func() []grouped {
 		}
 	}
 	return list
+})
+
+// groupedTests are the edges of groups, and sampledGroups.
+var groupedTests = sync.OnceValue(func() []grouped {
+	return slices.Concat(numberedEdges(edgeGroups), sampledGroups())
 })
 
 // eachGrouped calls visit for groupedTests.
@@ -339,5 +345,30 @@ func eachNoGrouped(visit func(tests []impl.Test, groups [][]int)) {
 			visit(equalTests(many, 2), groups)
 			visit(turnedTests(many, many+7), groups)
 		}
+	}
+}
+
+// checkArgumentsStay fails if what is called for tests and groups writes to them, or behind them, or returns other numbers if it is called again.
+func checkArgumentsStay(t *testing.T, tests []impl.Test, groups [][]int, answersFor func(tests []impl.Test, groups [][]int) []int) {
+	longTests, longGroups := append(slices.Clone(tests), impl.Test{Cost: 7, Chance: 7}), append(copied(groups), []int{7})
+	for i, row := range longGroups {
+		longGroups[i] = append(row, 7)[:len(row)]
+	}
+	// A row may stand in the same memory as the next one.
+	all := slices.Concat(groups...)
+	shared, left := [][]int{}, all
+	for _, row := range groups {
+		shared, left = append(shared, left[:len(row)]), left[len(row):]
+	}
+	testsBefore, groupsBefore, allBefore := slices.Clone(longTests), copied(longGroups), slices.Clone(all)
+	first := answersFor(longTests[:len(tests)], longGroups[:len(groups)])
+	for i, row := range longGroups {
+		if row = row[:len(row)+1]; row[len(row)-1] != 7 || !slices.Equal(row[:len(row)-1], groupsBefore[i]) {
+			t.Fatal(tests, groups, row)
+		}
+	}
+	again := answersFor(tests, shared)
+	if !slices.Equal(longTests, testsBefore) || len(longGroups) != len(groupsBefore) || !slices.Equal(all, allBefore) || !slices.Equal(first, again) {
+		t.Fatal(longTests, longGroups, all, first, again)
 	}
 }

@@ -393,7 +393,7 @@ func TestGroupsGoByTheirRatiosAndSoDoTheirTests(t *testing.T) {
 
 func TestOfEqualGroupsTheOneAheadIsFirst(t *testing.T) {
 	seen := 0
-	for _, g := range groupedEdges() {
+	for _, g := range numberedEdges(edgeGroups) {
 		isEqual := true
 		for _, row := range g.groups {
 			isEqual = isEqual && groupRatioIn(g.tests, row).Cmp(groupRatioIn(g.tests, g.groups[0])) == 0
@@ -735,27 +735,7 @@ func overwrite[E any](row []E, element E) {
 
 func TestArgumentsOfGroupsAreNotWrittenTo(t *testing.T) {
 	eachGrouped(func(tests []impl.Test, groups [][]int) {
-		longTests, longGroups := append(slices.Clone(tests), impl.Test{Cost: 7, Chance: 7}), append(copied(groups), []int{7})
-		for i, row := range longGroups {
-			longGroups[i] = append(row, 7)[:len(row)]
-		}
-		// A row may stand in the same memory as the next one.
-		all := slices.Concat(groups...)
-		shared, left := [][]int{}, all
-		for _, row := range groups {
-			shared, left = append(shared, left[:len(row)]), left[len(row):]
-		}
-		testsBefore, groupsBefore, allBefore := slices.Clone(longTests), copied(longGroups), slices.Clone(all)
-		first := groupsFor(longTests[:len(tests)], longGroups[:len(groups)])
-		for i, row := range longGroups {
-			if row = row[:len(row)+1]; row[len(row)-1] != 7 || !slices.Equal(row[:len(row)-1], groupsBefore[i]) {
-				t.Fatal(tests, groups, row)
-			}
-		}
-		again := groupsFor(tests, shared)
-		if !slices.Equal(longTests, testsBefore) || len(longGroups) != len(groupsBefore) || !slices.Equal(all, allBefore) || !slices.Equal(first, again) {
-			t.Fatal(longTests, longGroups, all, first, again)
-		}
+		checkArgumentsStay(t, tests, groups, groupsFor)
 	})
 }
 
