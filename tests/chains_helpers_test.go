@@ -96,8 +96,7 @@ func cutChain(chains [][]int, at, behind, to int) [][]int {
 
 // joinedChain is chains of which the first one and the second one are one.
 func joinedChain(chains [][]int) [][]int {
-	joined := slices.Concat(chains[0], chains[1])
-	return append([][]int{joined}, copied(chains[2:])...)
+	return joinedRows(chains, 0)
 }
 
 // edgeChains are chains of costs and chances, with what is easily forgotten.

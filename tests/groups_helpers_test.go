@@ -84,6 +84,12 @@ func turnedRows(rows [][]int) [][]int {
 	return rows
 }
 
+// joinedRows are rows of which the one at a place and the next one are one.
+func joinedRows(rows [][]int, at int) [][]int {
+	joined := slices.Concat(rows[at], rows[at+1])
+	return slices.Concat(copied(rows[:at]), [][]int{joined}, copied(rows[at+2:]))
+}
+
 // areGroups tells whether no row is empty, and all together have each of so many tests once.
 func areGroups(many int, rows [][]int) bool {
 	hasEmpty := slices.ContainsFunc(rows, func(row []int) bool { return len(row) == 0 })

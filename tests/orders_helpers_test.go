@@ -80,13 +80,17 @@ func averageIn(tests []impl.Test, truth []bool, order []int) int {
 
 // bestIn is the first one of all orders that none costs less than, and what it costs.
 func bestIn(tests []impl.Test, truth []bool) ([]int, int) {
-	orders := ordersOf(len(tests))
-	averages := make([]int, len(orders))
-	for i, order := range orders {
-		averages[i] = averageIn(tests, truth, order)
+	return firstLeast(ordersOf(len(tests)), func(order []int) int { return averageIn(tests, truth, order) })
+}
+
+// firstLeast is the first one of a list for which a number is least, and that number.
+func firstLeast[E any](list []E, numberOf func(element E) int) (E, int) {
+	numbers := make([]int, len(list))
+	for i, element := range list {
+		numbers[i] = numberOf(element)
 	}
-	least := slices.Min(averages)
-	return orders[slices.Index(averages, least)], least
+	least := slices.Min(numbers)
+	return list[slices.Index(numbers, least)], least
 }
 
 // exchanged is a row with the numbers at two places exchanged.
