@@ -110,3 +110,20 @@ func saysYes(state, at int) bool {
 	}
 	return state%2 == 1
 }
+
+// textsNear lists the texts that have one byte more than a text, one less, or another one; the bytes are some signs.
+func textsNear(text, signs string) []string {
+	var list []string
+	for at := range len(text) + 1 {
+		for _, sign := range []byte(signs) {
+			list = append(list, text[:at]+string(sign)+text[at:])
+			if at < len(text) {
+				list = append(list, text[:at]+string(sign)+text[at+1:])
+			}
+		}
+		if at < len(text) {
+			list = append(list, text[:at]+text[at+1:])
+		}
+	}
+	return list
+}

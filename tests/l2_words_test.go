@@ -359,30 +359,13 @@ func TestReadTextsAreCanonical(t *testing.T) {
 		if turn%97 != 0 {
 			continue
 		}
-		for _, text := range textsNear(term.text) {
+		for _, text := range textsNear(term.text, textSigns+"e ") {
 			got, ok := impl.ReadTerm(term.many, text)
 			if ok && (!impl.TermOk(term.many, got) || impl.TermText(term.many, got) != text) || !ok && len(got) != 0 {
 				t.Fatal(term.many, text, got, ok)
 			}
 		}
 	}
-}
-
-// textsNear lists the texts that have one byte more than a text, one less, or another one.
-func textsNear(text string) []string {
-	var list []string
-	for at := range len(text) + 1 {
-		for _, sign := range []byte(textSigns + "e ") {
-			list = append(list, text[:at]+string(sign)+text[at:])
-			if at < len(text) {
-				list = append(list, text[:at]+string(sign)+text[at+1:])
-			}
-		}
-		if at < len(text) {
-			list = append(list, text[:at]+text[at+1:])
-		}
-	}
-	return list
 }
 
 func TestTextsInBracketsAreRefused(t *testing.T) {

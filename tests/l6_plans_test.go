@@ -998,16 +998,13 @@ func TestResultsOfPlansAreNewMemory(t *testing.T) {
 
 func TestArgumentsOfPlansAreNotWrittenTo(t *testing.T) {
 	eachPlanned(func(p planned) {
-		marks, tests := append(slices.Clone(p.term), nots(5)...), append(slices.Clone(p.tests), impl.Test{Cost: 7, Chance: 7})
-		plan, order := append(slices.Clone(p.plan), impl.Choice{Ask: 7, No: 7, Yes: 7}), append(reversed(ascending(len(p.tests))), 7)
-		marksBefore, testsBefore, planBefore, orderBefore := slices.Clone(marks), slices.Clone(tests), slices.Clone(plan), slices.Clone(order)
-		many := len(p.tests)
-		first := plansFor(tests[:many], marks[:len(p.term)], plan[:len(p.plan)], order[:many])
-		if !slices.Equal(marks, marksBefore) || !slices.Equal(tests, testsBefore) || !slices.Equal(plan, planBefore) || !slices.Equal(order, orderBefore) {
-			t.Fatal(tests, marks, plan, order)
-		}
-		if again := plansFor(p.tests, p.term, p.plan, order[:many]); !slices.Equal(first, again) {
-			t.Fatal("called again", p.tests, p.term, p.plan, first, again)
+		order := append(reversed(ascending(len(p.tests))), 7)
+		before := slices.Clone(order)
+		checkPlannedStays(t, p, func(tests []impl.Test, term []impl.Mark, plan []impl.Choice) []int {
+			return plansFor(tests, term, plan, order[:len(tests)])
+		})
+		if !slices.Equal(order, before) {
+			t.Fatal(order, before)
 		}
 	})
 }

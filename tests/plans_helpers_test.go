@@ -2,6 +2,7 @@ package tests
 
 import (
 	"slices"
+	"testing"
 
 	"loop.example/checksinorder/impl"
 )
@@ -219,6 +220,20 @@ func eachPlanned(visit func(p planned)) {
 			visit(planned{tests, term, truth, w, planOf(layouts[(turn+draw)%3](w))})
 		}
 	})
+}
+
+// checkPlannedStays fails if functions write to tests, to a term, to a plan, or to what stands behind them, or if they answer otherwise when they are called again.
+func checkPlannedStays(t *testing.T, p planned, answersFor func(tests []impl.Test, term []impl.Mark, plan []impl.Choice) []int) {
+	tests, term := append(slices.Clone(p.tests), impl.Test{Cost: 7, Chance: 7}), append(slices.Clone(p.term), nots(5)...)
+	plan := append(slices.Clone(p.plan), impl.Choice{Ask: 7, No: 7, Yes: 7})
+	testsBefore, termBefore, planBefore := slices.Clone(tests), slices.Clone(term), slices.Clone(plan)
+	first := answersFor(tests[:len(p.tests)], term[:len(p.term)], plan[:len(p.plan)])
+	if !slices.Equal(tests, testsBefore) || !slices.Equal(term, termBefore) || !slices.Equal(plan, planBefore) {
+		t.Fatal(tests, term, plan)
+	}
+	if again := answersFor(p.tests, p.term, p.plan); !slices.Equal(first, again) {
+		t.Fatal("called again", p.tests, p.term, p.plan, first, again)
+	}
 }
 
 // leastBy is what the ways that cost least cost in all states that agree with what is known, by their weights, and the least test that such a way asks first.
