@@ -92,14 +92,20 @@ func provesIn(truth []bool, state, some int) bool {
 	return true
 }
 
-// leastIn lists the proofs in a state within which no other one is, over all sets of tests.
-func leastIn(truth []bool, state int) []int {
+// proofsIn lists the proofs in a state, over all sets of tests.
+func proofsIn(truth []bool, state int) []int {
 	var proofs []int
 	for some := range truth {
 		if provesIn(truth, state, some) {
 			proofs = append(proofs, some)
 		}
 	}
+	return proofs
+}
+
+// leastIn lists the proofs in a state within which no other one is.
+func leastIn(truth []bool, state int) []int {
+	proofs := proofsIn(truth, state)
 	return slices.DeleteFunc(slices.Clone(proofs), func(some int) bool {
 		return slices.ContainsFunc(proofs, func(other int) bool { return other != some && isWithinSet(other, some) })
 	})
